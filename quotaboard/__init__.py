@@ -1,0 +1,1 @@
+"""Quotaboard: votes on connected issues, decided by quotas."""
