@@ -26,10 +26,15 @@ def is_clash(board, thing):
 
 def witnesses(board, clash):
     """Return, for each answer of the clash, the first feasible row that has all the others."""
-    if not is_clash(board, clash):
-        raise ClashError("this is not a clash of the board")
+    check_clash(board, clash)
     firsts = first_rows(board)
     return tuple([firsts[part] for part in shortened(clash)])
+
+
+def check_clash(board, clash):
+    """Raise BoardError or ClashError unless this is a clash of a board."""
+    if not is_clash(board, clash):
+        raise ClashError("this is not a clash of the board")
 
 
 def first_rows(board):

@@ -106,9 +106,49 @@ class Code(unittest.TestCase):
         for name, node in nodes(ast.Attribute):
             self.assertTrue(node.attr == "__init__" or not node.attr.startswith("_"), name)
             self.assertNotIn(node.attr, BARRED_NAMES, name)
-            self.assertIn(node.attr, own | stored | values | set(METHODS) | {"__init__"}, name)
+            self.assertIn(node.attr, own | stored | values | set(METHODS) | {"__init__", "setter"}, name)
             if isinstance(node.ctx, ast.Store):
                 self.assertNotIn(node.attr, METHODS, name)
+
+    def test_no_name_is_a_method_and_an_attribute(self):
+        methods = {part.name for name, node in nodes(ast.ClassDef) for part in node.body if hasattr(part, "name")}
+        settable = {
+            part.name for name, node in nodes(ast.ClassDef) for part in node.body
+            if any(isinstance(sign, ast.Attribute) for sign in getattr(part, "decorator_list", []))
+        }
+        for name, node in nodes(ast.Attribute):
+            if isinstance(node.ctx, ast.Store) and node.attr not in settable:
+                self.assertNotIn(node.attr, methods, name)
+
+    def test_no_variable_has_the_name_of_an_import_or_a_class(self):
+        for path, text in sources():
+            tree = ast.parse(text)
+            bound = {alias.name for node in ast.walk(tree) if isinstance(node, ast.ImportFrom) for alias in node.names}
+            bound |= {node.name for node in ast.walk(tree) if isinstance(node, (ast.ClassDef, ast.FunctionDef))}
+            bound -= {part.name for node in ast.walk(tree) if isinstance(node, ast.ClassDef) for part in node.body
+                      if isinstance(part, ast.FunctionDef)}
+            for node in ast.walk(tree):
+                if isinstance(node, ast.Name) and isinstance(node.ctx, ast.Store):
+                    self.assertNotIn(node.id, bound, path.name)
+                if isinstance(node, ast.arg):
+                    self.assertNotIn(node.arg, bound, path.name)
+
+    def test_super_stands_only_in_the_call_of_a_method(self):
+        called = [
+            node.func for name, node in nodes(ast.Call)
+            if isinstance(node.func, ast.Attribute) and isinstance(node.func.value, ast.Call)
+            and isinstance(node.func.value.func, ast.Name) and node.func.value.func.id == "super"
+        ]
+        for function in called:
+            self.assertTrue(function.attr == "__init__" or not function.attr.startswith("_"))
+            self.assertEqual(function.value.args, [])
+        self.assertEqual(len(called), len([node for name, node in nodes(ast.Name) if node.id == "super"]))
+
+    def test_what_leaves_a_block_only_sets_attributes(self):
+        for name, node in nodes(ast.FunctionDef):
+            for part in node.body if node.name == "__exit__" else []:
+                self.assertIsInstance(part, ast.Assign, name)
+                self.assertIsInstance(part.value, (ast.Constant, ast.Name, ast.Attribute), name)
 
     def test_plain_values(self):
         for name, node in nodes(ast.Constant):
