@@ -3,7 +3,7 @@
 from quotaboard.ballots import are_votes, check_ballot, decided_row
 from quotaboard.boards import check_board
 from quotaboard.checks import check_voters, is_integer
-from quotaboard.clashes import check_clash, clashes, witnesses
+from quotaboard.clashes import check_clash, clashes, found_witnesses, witnesses
 from quotaboard.errors import LimitError, SharesError
 
 MOST_QUOTAS = 4096
@@ -13,7 +13,7 @@ MOST_PARTS = 100
 def strain(board, n, quotas, clash):
     """Return the sum, over the answers of the clash, of n minus the votes that the answer needs."""
     check_ballot(board, n, quotas)
-    check_clash(board, clash)
+    check_clash(found_witnesses(board, clash))
     return summed_strain(n, quotas, clash)
 
 

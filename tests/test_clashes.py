@@ -2,13 +2,17 @@
 
 import unittest
 from inspect import isgenerator, isgeneratorfunction, signature
+from itertools import combinations
+from random import Random
 from time import perf_counter
 
 from quotaboard import clashes as module
 from quotaboard.boards import Board
 from quotaboard.clashes import clashes, is_clash, witnesses
 from quotaboard.errors import BoardError, ClashError
-from tests.samples import EXAMPLE, drawn_boards, has, in_order, no_boards, no_texts, texts, tried_clashes, without
+from tests.samples import (
+    EXAMPLE, drawn_boards, has, in_order, no_boards, no_texts, texts, tried_clashes, tried_witnesses, without,
+)
 
 
 class Interface(unittest.TestCase):
@@ -59,6 +63,13 @@ class Clashes(unittest.TestCase):
         for text, found in expected.items():
             with self.subTest(text=text):
                 self.assertEqual(list(clashes(Board.read(text))), found)
+
+    def test_all_boards_of_1_to_3_issues(self):
+        for issues in (1, 2, 3):
+            for many in range(1, 2 ** issues + 1):
+                for rows in combinations(texts(issues), many):
+                    board = Board(*rows)
+                    self.assertEqual(list(clashes(board)), tried_clashes(board))
 
     def test_6_issues_take_little_time(self):
         half = Board(*[row for row in texts(6) if row.count("1") % 2 == 0])
@@ -156,6 +167,56 @@ class Witnesses(unittest.TestCase):
             for clash in ("-01", "111", "", None, True, ["-01"]):
                 with self.subTest(value=value), self.assertRaises(BoardError):
                     witnesses(value, clash)
+
+
+class Speed(unittest.TestCase):
+    def timed(self, seconds, ask):
+        """Return what the call returns, and expect that it takes less time."""
+        start = perf_counter()
+        answers = ask()
+        self.assertLess(perf_counter() - start, seconds)
+        return answers
+
+    def test_is_clash_of_each_part_some_thousand_times(self):
+        for many in (63, 64):
+            board, parts = Board(*texts(6)[:many]), texts(6, "-01")
+            others = ["11111", "1111111", "11111x", "", None, True, 111111, ["111111"], ("111111",), {"111111": 1}]
+            found = tried_clashes(board)
+            self.assertEqual(found, ["111111"][:64 - many])
+            for answers in self.timed(3, lambda: [[is_clash(board, part) for part in parts] for _ in range(10)]):
+                self.assertEqual([part for part, answer in zip(parts, answers) if answer], found)
+            for answers in self.timed(3, lambda: [[is_clash(board, thing) for thing in others] for _ in range(500)]):
+                self.assertEqual(answers, [False] * len(others))
+            self.assertEqual(set(self.timed(3, lambda: [is_clash(board, "------") for _ in range(5000)])), {False})
+
+    def test_witnesses_some_thousand_times(self):
+        board = Board(*texts(6)[:63])
+        expected = ("011111", "101111", "110111", "111011", "111101", "111110")
+        self.assertEqual(tried_witnesses(board, "111111"), expected)
+        found = self.timed(3, lambda: [witnesses(board, "111111") for _ in range(5000)])
+        self.assertEqual(found, [expected] * 5000)
+
+    def test_refused_witnesses_some_thousand_times(self):
+        def refused(board, part):
+            try:
+                witnesses(board, part)
+            except ClashError:
+                return True
+            return False
+
+        for many in (63, 64):
+            board = Board(*texts(6)[:many])
+            parts = [part for part in texts(6, "-01") if part != "111111" or many == 64]
+            found = self.timed(3, lambda: [refused(board, part) for _ in range(5) for part in parts])
+            self.assertEqual(set(found), {True})
+
+    def test_all_clashes_of_boards_with_5_and_6_issues(self):
+        draw = Random(27)
+        boards = [Board(*texts(6)[:63]), Board(*texts(6)), Board(*texts(5)[:31]), Board(*texts(5))]
+        boards += [Board(*draw.sample(texts(k), many)) for k in (5, 6) for many in range(1, 2 ** k, 4)]
+        found = self.timed(4, lambda: [[list(clashes(board)) for _ in range(100)] for board in boards])
+        for board, answers in zip(boards, found):
+            self.assertEqual(answers, [tried_clashes(board)] * 100)
 
 
 class GeneralRules(unittest.TestCase):

@@ -45,7 +45,7 @@ def boards_with_premises(seed, each=20):
 
 def boards_without_premises(seed):
     """Return boards without premises, some of them with as many rows as boards with premises have."""
-    boards = [Board("000", "001", "010"), Board("0011", "1100", "0101", "1010", "0000"), Board("0000", "0001", "0010", "0100")]
+    boards = [Board.read(text) for text in ("000 001 010", "0000 0011 0101 1010 1100", "0000 0001 0010 0100")]
     return boards + [board for board in drawn_boards(seed, 8) if not all_premises(board)]
 
 
@@ -128,8 +128,8 @@ class Settled(unittest.TestCase):
             good = "01" * 3
             values = [
                 "0" * (size + 1), "1" * (size + 7), "0" * 600, "-" * (size or 1), good[:size] + " ", " " + good[:size],
-                "2" * (size or 1), "O" * (size or 1), "\u0661" * (size or 1), "\uff10" * (size or 1), good[:size] + "\n",
-                board, list(good[:size]), tuple(good[:size]), (good[:size],),
+                "2" * (size or 1), "O" * (size or 1), "\u0661" * (size or 1), "\uff10" * (size or 1),
+                good[:size] + "\n", board, list(good[:size]), tuple(good[:size]), (good[:size],),
             ]
             if size > 0:
                 values += [
